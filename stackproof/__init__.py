@@ -1,0 +1,1 @@
+"""Stackproof: blocks of rows that keep the kinds they tell."""
