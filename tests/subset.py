@@ -2,9 +2,9 @@
 
 The language known here is smaller than that of LANGUAGE.md: it leaves out
 whole statements and expressions (try, with, match, sets, lambdas, nested
-functions, keywords in calls ..) and with them the rules about them. So what
-is let by keeps the rules L1 to L28. Code that needs more of LANGUAGE.md is
-first let in here, with the rules that go with it.
+functions, keywords in calls ..) and with them the rules about them. Of the
+rest it sees what can be seen in the text of a file, not each clause. Code that
+needs more of LANGUAGE.md is first let in here, with the rules that go with it.
 """
 
 import ast
