@@ -5,7 +5,8 @@ from stackproof.errors import Empty, WrongKind
 MODULUS = 1000000000
 MOST_SIGNS = 60
 
-# How many values a row takes. Of copy only its own k tells that.
+# How many values a row takes. Of copy only its own k tells that. An if is not a
+# plain row, but it takes its number as those rows do.
 WANTED = {
     "num": 0,
     "text": 0,
@@ -17,6 +18,7 @@ WANTED = {
     "show": 1,
     "swap": 2,
     "drop": 1,
+    "if": 1,
 }
 
 # The kind that each value which a row takes must have. The rows that are not
@@ -28,6 +30,7 @@ TOLD = {
     "join": "text",
     "long": "text",
     "show": "num",
+    "if": "num",
 }
 
 
@@ -42,7 +45,7 @@ def kinds_of(stack):
 
 
 def wanted(row):
-    """How many values a plain row takes from the top of a stack."""
+    """How many values a plain row or an if takes from the top of a stack."""
     word = row[0]
     if word == "copy":
         return row[1] + 1
@@ -50,7 +53,7 @@ def wanted(row):
 
 
 def check(row, kinds):
-    """Refuse a plain row that cannot take values of these kinds.
+    """Refuse a plain row or an if that cannot take values of these kinds.
 
     The kinds are those of the uppermost values, as many as the row wants, or
     of all values where there are fewer.
@@ -139,9 +142,16 @@ def put_by(row, taken):
     return put(taken)
 
 
-def done(stack, row):
-    """The stack behind a plain row, another list."""
+def do(stack, row):
+    """Do a plain row on a stack itself. One that is refused leaves it as it was."""
     place = max(0, len(stack) - wanted(row))
     taken = stack[place:]
     check(row, kinds_of(taken))
-    return stack[:place] + put_by(row, taken)
+    stack[place:] = put_by(row, taken)
+
+
+def done(stack, row):
+    """The stack behind a plain row, another list."""
+    other = list(stack)
+    do(other, row)
+    return other

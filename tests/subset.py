@@ -1,9 +1,9 @@
 """Looks the package's files over for what LANGUAGE.md does not allow.
 
 The language known here is smaller than that of LANGUAGE.md: it leaves out
-whole statements and expressions (try, with, match, sets, lambdas, nested
-functions, keywords in calls ..) and with them the rules about them. Of the
-rest it sees what can be seen in the text of a file, not each clause. Code that
+whole statements and expressions (with, match, sets, lambdas, nested functions,
+keywords in calls ..) and with them the rules about them. A try catches own
+errors alone, without their names, finally or else. Of the rest it sees what can be seen in the text of a file, not each clause. Code that
 needs more of LANGUAGE.md is first let in here, with the rules that go with it.
 """
 
@@ -17,6 +17,7 @@ PACKAGE = "stackproof"
 STATEMENTS = (
     ast.Expr, ast.ImportFrom, ast.FunctionDef, ast.ClassDef, ast.Assign, ast.AugAssign,
     ast.If, ast.While, ast.For, ast.Return, ast.Break, ast.Continue, ast.Pass, ast.Raise,
+    ast.Try,
 )
 EXPRESSIONS = (
     ast.Constant, ast.Name, ast.List, ast.Tuple, ast.Dict, ast.BinOp, ast.UnaryOp,
@@ -177,6 +178,11 @@ def methods_of(tree):
     return found
 
 
+def class_names(trees):
+    """The names of the classes of a package."""
+    return [node.name for tree in trees.values() for node in ast.walk(tree) if isinstance(node, ast.ClassDef)]
+
+
 class File:
     """One file of the package, looked over rule by rule."""
 
@@ -190,6 +196,7 @@ class File:
         for node in ast.walk(tree):
             for child in ast.iter_child_nodes(node):
                 self.parents[child] = node
+        self.classes = [name for name in top_names(tree) if name in class_names(trees)]
         self.own_methods = [part.name for each in trees.values() for part in methods_of(each)]
         self.own_attributes = [
             node.attr for each in trees.values() for node in ast.walk(each)
@@ -206,6 +213,7 @@ class File:
             ast.Raise: self.look_at_raise, ast.For: self.look_at_loop,
             ast.Assign: self.look_at_assignment, ast.Expr: self.look_at_expression,
             ast.FormattedValue: self.look_at_braces, ast.Dict: self.look_at_dict,
+            ast.Try: self.look_at_try,
         }
         for node in ast.walk(self.tree):
             self.look_at_kind(node)
@@ -356,6 +364,8 @@ class File:
             self.tell("L22", node, f"{node.id} is not called")
         if node.id in ERRORS and not (isinstance(parent, ast.ClassDef) or called):
             self.tell("L18", node, f"{node.id} is kept")
+        if node.id in self.classes and not called and not isinstance(parent, (ast.ClassDef, ast.ExceptHandler)):
+            self.tell("L18", node, f"{node.id} is kept")
 
     def is_kind_asked(self, node):
         """Whether this name stands in isinstance(x, C) or isinstance(x, (C, D))."""
@@ -429,6 +439,14 @@ class File:
             return
         if node.exc.func.id not in top_names(self.tree) or not node.exc.func.id[0].isupper():
             self.tell("L19", node, f"{node.exc.func.id} is no own error")
+
+    def look_at_try(self, node):
+        if node.finalbody or node.orelse:
+            self.tell("L6", node, "a finally or an else of a try is not let in")
+        for handler in node.handlers:
+            kind = handler.type
+            if not isinstance(kind, ast.Name) or kind.id not in self.classes or handler.name:
+                self.tell("L19", handler, "a handler that is not of one own error, or that names it")
 
     def look_at_loop(self, node):
         """What a loop goes over is not changed in it."""

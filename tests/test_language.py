@@ -23,7 +23,8 @@ BROKEN = (
     ("L4", "def f(xs=[]):\n    return xs\n"),
     ("L5", "class Box:\n    for k in (1, 2):\n        pass\n"),
     ("L5", "class Box(ValueError, Exception):\n    pass\n"),
-    ("L6", "def f(xs):\n    try:\n        return xs[0]\n    except Exception:\n        return 1\n"),
+    ("L6", "def f(xs):\n    with xs:\n        return 1\n"),
+    ("L6", "def f(xs):\n    try:\n        return xs[0]\n    finally:\n        xs.pop()\n"),
     ("L6", "def f(xs):\n    global COUNT\n    COUNT = 1\n"),
     ("L2", "def f(xs):\n    import math\n    return math\n"),
     ("L6", "def f(xs):\n    xs == 1\n"),
@@ -53,7 +54,13 @@ BROKEN = (
     ("L17", "def f(a):\n    return 'a type of'\n"),
     ("L18", "class Box:\n    def low(self):\n        return 1\n\n    def low(self):\n        return 2\n"),
     ("L19", "def f(a):\n    raise ValueError('no')\n"),
+    ("L18", "class Box:\n    pass\n\n\ndef f():\n    return [Box]\n"),
     ("L19", "def f(a):\n    raise a\n"),
+    ("L19", "def f(xs):\n    try:\n        return xs[0]\n    except Exception:\n        return 1\n"),
+    ("L19", "def f(xs):\n    try:\n        return xs[0]\n    except ValueError:\n        return 1\n"),
+    ("L19", "def f(xs):\n    try:\n        return xs[0]\n    except:\n        return 1\n"),
+    ("L19", "class Bad(ValueError):\n    pass\n\n\ndef f(xs):\n    try:\n        return xs()\n"
+            "    except Bad as why:\n        return why\n"),
     ("L20", "def f(a, b):\n    return a is b\n"),
     ("L21", "def f(a: int):\n    return a\n"),
     ("L22", "def f(xs):\n    count = len\n    return count(xs)\n"),
@@ -76,6 +83,10 @@ LIMIT = 3
 WORDS = {"a": 1, "b": -1}
 
 
+class Bad(ValueError):
+    """An error."""
+
+
 class Box:
     """A class."""
 
@@ -86,8 +97,18 @@ class Box:
         return self.stack[-1]
 
 
+def lowest(xs):
+    """A function that catches an own error."""
+    try:
+        return total(xs)[0]
+    except Bad:
+        return 0
+
+
 def total(xs):
-    """A function."""
+    """A function that raises one."""
+    if not xs:
+        raise Bad("empty")
     found = 0
     for at, x in enumerate(xs):
         if isinstance(x, int) and x is not None:
